@@ -1,0 +1,1 @@
+"""Rows of a test that name which lots of settings fail."""
