@@ -2,13 +2,14 @@
 
 from itertools import combinations
 
-from rowsthatname.errors import BadFaults, BadShape, BadSuite, TooGreat
-from rowsthatname.rigs import MOST_SETTINGS, first_wrong_lot, is_let, is_met
-from rowsthatname.rigs import is_number, is_tuple, let_rows, meets_any, need_rig
+from rowsthatname.errors import BadFaults, BadOutcomes, BadShape, BadSuite, TooGreat
+from rowsthatname.rigs import MOST_SETTINGS, first_wrong_lot, is_let, is_number, is_tuple
+from rowsthatname.rigs import let_rows, meets_any, need_number, need_rig
 
 MOST_LOTS = 2
 MOST_ROWS = 40
 MOST_FAULTS = 2000
+MOST_WRONG = 5
 
 
 def is_shape(values, value):
@@ -27,19 +28,19 @@ def need_shape(rig, shape):
     return shape
 
 
-def is_faults(rig, shape, value):
-    """Whether a value is faults of a rig and a shape."""
+def is_faults(rig, shape, marks, value):
+    """Whether a value is faults of a rig and a shape, with the marks of the lots that can fail."""
     values, _ = rig
-    size, most = shape
+    _, most = shape
     if not is_tuple(value, 0, most) or first_wrong_lot(values, value) is not None:
         return False
-    return all([len(lot) == size and is_met(rig, lot) for lot in value])
+    return all([lot in marks for lot in value])
 
 
 def need_faults(rig, shape, faults):
     """The faults themselves."""
     need_shape(rig, shape)
-    if not is_faults(rig, shape, faults):
+    if not is_faults(rig, shape, let_marks(rig, shape), faults):
         raise BadFaults(faults)
     return faults
 
@@ -53,6 +54,31 @@ def need_suite(rig, suite):
         if not is_let(rig, row):
             raise BadSuite(number)
     return suite
+
+
+def need_rows(rig, shape, suite):
+    """The suite itself, of a rig and a shape."""
+    need_shape(rig, shape)
+    return need_suite(rig, suite)
+
+
+def is_outcomes(suite, value):
+    """Whether a value is outcomes of a suite."""
+    if not is_tuple(value, len(suite), len(suite)):
+        return False
+    return all([outcome is True or outcome is False for outcome in value])
+
+
+def need_heard(suite, heard):
+    """The outcomes that were heard themselves."""
+    if not is_outcomes(suite, heard):
+        raise BadOutcomes(heard)
+    return heard
+
+
+def need_wrong(wrong):
+    """The number of wrong outcomes itself."""
+    return need_number(wrong, 0, MOST_WRONG)
 
 
 def lot_marks(rows, size):
@@ -73,10 +99,22 @@ def fault_marks(marks, faults):
     return failing
 
 
+def let_marks(rig, shape):
+    """A dict of each lot that can fail: the numbers of the let rows that meet it, as bits."""
+    size, _ = need_shape(rig, shape)
+    return lot_marks(let_rows(rig), size)
+
+
 def lots_that_can_fail(rig, shape):
     """The ascending tuple of all lots that can fail."""
-    size, _ = need_shape(rig, shape)
-    return tuple(sorted(list(lot_marks(let_rows(rig), size))))
+    return tuple(sorted(list(let_marks(rig, shape))))
+
+
+def signs_by(shape, rows, those):
+    """The outcomes of some rows by each of those faults, as bits: the numbers of the rows that fail."""
+    size, _ = shape
+    marks = lot_marks(rows, size)
+    return [fault_marks(marks, faults) for faults in those]
 
 
 def count_faults(many_lots, most):
@@ -110,13 +148,16 @@ def outcomes(rig, shape, faults, suite):
 def classes(rig, shape):
     """The ascending tuple of the ascending tuples of faults that are alike."""
     every = all_faults(rig, shape)
-    size, _ = shape
-    marks = lot_marks(let_rows(rig), size)
     alike = {}
-    for faults in every:
-        alike.setdefault(fault_marks(marks, faults), []).append(faults)
+    for faults, sign in zip(every, signs_by(shape, let_rows(rig), every)):
+        alike.setdefault(sign, []).append(faults)
     # A dict keeps the order of its keys, so the classes stand as their first ones do.
     return tuple([tuple(group) for group in alike.values()])
+
+
+def first_ones(rig, shape):
+    """The first one of each class of alike faults, ascending."""
+    return [group[0] for group in classes(rig, shape)]
 
 
 def parting_rows(rig, shape, one, other):

@@ -1,6 +1,6 @@
 """Rigs, the lots of their settings, and their rows that are let."""
 
-from rowsthatname.errors import BadLot, BadRig
+from rowsthatname.errors import BadLot, BadNumber, BadRig
 
 MOST_KNOBS = 5
 LEAST_VALUES = 2
@@ -15,6 +15,13 @@ def is_number(value, least, most):
     if isinstance(value, bool) or not isinstance(value, int):
         return False
     return least <= value <= most
+
+
+def need_number(value, least, most):
+    """The integer from least to most itself."""
+    if not is_number(value, least, most):
+        raise BadNumber(value)
+    return value
 
 
 def is_tuple(value, least, most):

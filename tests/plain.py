@@ -20,7 +20,10 @@ def lots_of(values, size):
 
 def is_meeting(row, lot):
     """Whether a row meets a lot."""
-    return set(lot) <= set(enumerate(row))
+    for knob, value in lot:
+        if row[knob] != value:
+            return False
+    return True
 
 
 @lru_cache(maxsize=None)
@@ -48,7 +51,10 @@ def all_faults(rig, shape):
 
 def is_failing(row, faults):
     """Whether a row fails by faults."""
-    return any(is_meeting(row, lot) for lot in faults)
+    for lot in faults:
+        if is_meeting(row, lot):
+            return True
+    return False
 
 
 @lru_cache(maxsize=None)
@@ -69,3 +75,116 @@ def classes(rig, shape):
     for faults in all_faults(rig, shape):
         groups.setdefault(frozenset(failing_rows(rig, faults)), []).append(faults)
     return tuple(sorted(tuple(sorted(group)) for group in groups.values()))
+
+
+def outcomes(faults, suite):
+    """The outcomes of a suite."""
+    return tuple(is_failing(row, faults) for row in suite)
+
+
+def differing(one, other):
+    """In how many places two outcomes differ."""
+    return sum(left != right for left, right in zip(one, other))
+
+
+def is_alike(rig, one, other):
+    """Whether two faults are alike."""
+    return failing_rows(rig, one) == failing_rows(rig, other)
+
+
+@lru_cache(maxsize=None)
+def firsts(rig, shape):
+    """The first one of each class."""
+    return tuple(min(group) for group in classes(rig, shape))
+
+
+@lru_cache(maxsize=None)
+def unlike_pairs(rig, shape):
+    """All pairs of two faults that are not alike, the lesser one first."""
+    return [pair for pair in combinations(all_faults(rig, shape), 2) if not is_alike(rig, *pair)]
+
+
+def differences(rig, shape, suite):
+    """A dict of all pairs of unlike faults: in how many places their outcomes differ."""
+    return differences_by(rig, shape, tuple(suite))
+
+
+@lru_cache(maxsize=None)
+def differences_by(rig, shape, suite):
+    """The same of a suite that is a tuple."""
+    by = {faults: outcomes(faults, suite) for faults in all_faults(rig, shape)}
+    return {(one, other): differing(by[one], by[other]) for one, other in unlike_pairs(rig, shape)}
+
+
+def margin(rig, shape, suite):
+    """The least of all differences, or None."""
+    return min(differences(rig, shape, suite).values(), default=None)
+
+
+def bears(rig, shape, suite, wrong):
+    """Whether a suite bears so many wrong outcomes."""
+    return all(many > 2 * wrong for many in differences(rig, shape, suite).values())
+
+
+def mixed_pair(rig, shape, suite, wrong):
+    """The least pair of two first ones that are too close, or None."""
+    pairs = [pair for pair, many in differences(rig, shape, suite).items()
+             if many <= 2 * wrong and set(pair) <= set(firsts(rig, shape))]
+    return min(pairs, default=None)
+
+
+def mixed_lots(rig, shape, suite):
+    """The first ones with the same outcomes."""
+    groups = {}
+    for faults in firsts(rig, shape):
+        groups.setdefault(outcomes(faults, suite), set()).add(faults)
+    return tuple(sorted(tuple(sorted(group)) for group in groups.values() if len(group) >= 2))
+
+
+def fitting(rig, shape, suite, heard, wrong):
+    """All faults that fit."""
+    return tuple(faults for faults in all_faults(rig, shape) if differing(outcomes(faults, suite), heard) <= wrong)
+
+
+def fitting_classes(rig, shape, suite, heard, wrong):
+    """All classes of faults that fit."""
+    fit = set(fitting(rig, shape, suite, heard, wrong))
+    return tuple(group for group in classes(rig, shape) if set(group) <= fit)
+
+
+def verdict(rig, shape, suite, heard, wrong, lot):
+    """What was heard of a lot that can fail, or None."""
+    having = {lot in faults for faults in fitting(rig, shape, suite, heard, wrong)}
+    return {frozenset(): None, frozenset({True}): "fails", frozenset({False}): "good"}.get(frozenset(having), "may")
+
+
+def wrong_rows(rig, shape, suite, heard, wrong):
+    """The numbers of the rows that were heard wrong by all faults that fit, or None."""
+    fit = fitting(rig, shape, suite, heard, wrong)
+    if not fit:
+        return None
+    return tuple(number for number, row in enumerate(suite)
+                 if {is_failing(row, faults) for faults in fit} == {not heard[number]})
+
+
+@lru_cache(maxsize=None)
+def cases(rig, shape):
+    """All cases."""
+    return sorted((lot, faults) for lot in can_fail(rig, shape[0])
+                  for faults in all_faults(rig, shape) if lot not in faults)
+
+
+def showing(suite, lot, faults):
+    """The numbers of the rows that show a lot beside faults."""
+    return [number for number, row in enumerate(suite) if is_meeting(row, lot) and not is_failing(row, faults)]
+
+
+def hidden_cases(rig, shape, suite, wrong):
+    """All cases such that at most 2 wrong rows show the lot."""
+    return [case for case in cases(rig, shape) if len(showing(suite, *case)) <= 2 * wrong]
+
+
+def suspects(rig, shape, suite, heard, wrong):
+    """All lots of whose rows at most so many were heard to be good."""
+    return tuple(sorted(lot for lot in can_fail(rig, shape[0]) if wrong >= sum(
+        is_meeting(row, lot) and not failed for row, failed in zip(suite, heard))))

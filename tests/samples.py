@@ -73,3 +73,25 @@ def small_cases():
     """All pairs of a sample rig and a shape of it that has at most 2,000 faults."""
     return [(rig, shape) for rig in RIGS for shape in shapes_of(rig)
             if len(plain.all_faults(rig, shape)) <= 2000]
+
+
+@lru_cache(maxsize=None)
+def tiny_cases():
+    """All pairs of a sample rig and a shape of it that has at most 40 faults: few enough to look at all pairs."""
+    return [(rig, shape) for rig, shape in small_cases() if len(plain.all_faults(rig, shape)) <= 40]
+
+
+def suites_of(rig, many, most=12):
+    """Some suites of a rig: none of the rows, all, and so many that a seeded source draws, some rows twice."""
+    rows = plain.let_rows(rig)
+    suites = [(), [], rows[:40], list((rows + rows)[:40]), rows[::-1][:3]]
+    draw = Random(repr(rig))
+    for number in range(many if rows else 0):
+        drawn = [draw.choice(rows) for _ in range(draw.randint(1, most))]
+        suites.append(drawn if number % 2 else tuple(drawn))
+    return suites
+
+
+def turned(outcomes, numbers):
+    """Outcomes with those of some rows turned."""
+    return tuple(outcome != (number in numbers) for number, outcome in enumerate(outcomes))

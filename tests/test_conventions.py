@@ -7,40 +7,9 @@ from itertools import permutations, product
 
 from rowsthatname import faults as faults_file
 from rowsthatname import rigs as rigs_file
-from rowsthatname.errors import BadFaults, BadLot, BadRig, BadShape, BadSuite, TooGreat
-
-RIG = ((2, 3, 2), (((0, 0), (1, 1)), ((1, 2),)))
-SHAPE = (2, 2)
-ONE = (((0, 0), (1, 0)), ((0, 1), (2, 0)))
-OTHER = (((0, 1), (1, 1)),)
-SUITE = [(0, 0, 0), (1, 1, 1), (0, 0, 0)]
-
-CALLS = (
-    (rigs_file, "need_rig", {"rig": RIG}),
-    (rigs_file, "need_lot", {"rig": RIG, "lot": ((0, 1), (1, 1))}),
-    (rigs_file, "is_let", {"rig": RIG, "value": (1, 1, 1)}),
-    (rigs_file, "let_rows", {"rig": RIG}),
-    (rigs_file, "rows_meeting", {"rig": RIG, "lot": ((0, 1),)}),
-    (rigs_file, "is_met", {"rig": RIG, "lot": ((0, 1),)}),
-    (faults_file, "need_shape", {"rig": RIG, "shape": SHAPE}),
-    (faults_file, "all_faults", {"rig": RIG, "shape": SHAPE}),
-    (faults_file, "outcomes", {"rig": RIG, "shape": SHAPE, "faults": ONE, "suite": SUITE}),
-    (faults_file, "classes", {"rig": RIG, "shape": SHAPE}),
-    (faults_file, "are_alike", {"rig": RIG, "shape": SHAPE, "one": ONE, "other": OTHER}),
-    (faults_file, "parting_rows", {"rig": RIG, "shape": SHAPE, "one": ONE, "other": OTHER}),
-    (faults_file, "failing_rows", {"rig": RIG, "shape": SHAPE, "faults": ONE}),
-)
-
-# For each argument its error, the field of it, and wrong values with what the field is then.
-WRONG = {
-    "rig": (BadRig, "path", ((None, ()), (((2,), []), (1,)), (((2, True), ()), (0, 1)),
-                             (((2,), (((0, 0),), ((0, 0),))), (1, 1)))),
-    "lot": (BadLot, "value", ((None, None), (((0, 2),), ((0, 2),)), ([(0, 0)], [(0, 0)]))),
-    "shape": (BadShape, "value", ((None, None), ((4, 1), (4, 1)), ([2, 2], [2, 2]))),
-    "faults": (BadFaults, "value", ((None, None), ((((0, 0), (1, 1)),), (((0, 0), (1, 1)),)), ([], []))),
-    "suite": (BadSuite, "place", ((None, None), ([(0, 0, 0), (0, 2, 0)], 1), ([(0, 0, 0)] * 41, None))),
-}
-WRONG["one"] = WRONG["other"] = WRONG["faults"]
+from rowsthatname.errors import BadPaper, BadRig, TooGreat
+from tests.calls import (CALLS, GREAT, HEAVY_PAPERS, LIGHT_PAPERS, ONE, RIG, SHAPE, TOO_GREAT, WRONG, great_of,
+                         refused_of)
 
 
 class Calls(unittest.TestCase):
@@ -84,6 +53,12 @@ class Calls(unittest.TestCase):
             faults_file.all_faults(((4,) * 5, ()), (3, 2))
         self.assertEqual([getattr(file, name)(**given) for file, name, given in CALLS], first)
 
+    def test_suites_as_lists_and_as_tuples(self):
+        for file, name, given in CALLS:
+            if "suite" in given:
+                call = getattr(file, name)
+                self.assertEqual(call(**{**given, "suite": tuple(given["suite"])}), call(**given))
+
 
 class Arguments(unittest.TestCase):
 
@@ -96,9 +71,7 @@ class Arguments(unittest.TestCase):
 
     def test_what_is_refused_stays_as_it_was(self):
         for file, name, given in CALLS:
-            for key in given:
-                if key == "value":
-                    continue
+            for key in refused_of(name, given):
                 for value in ([(2, 3), [], {}], [[0, 1], [(0, 0)]], {"rig": [RIG]}, [[0, 0, 0], (0, 0, 0)]):
                     passed = {**given, key: value}
                     kept = deepcopy(passed)
@@ -113,11 +86,13 @@ class Arguments(unittest.TestCase):
         self.assertEqual(value, kept)
 
     def test_suites_stay_the_same_lists(self):
-        suite = [(0, 0, 0), (1, 1, 1)]
-        rows = list(suite)
-        faults_file.outcomes(RIG, SHAPE, ONE, suite)
-        self.assertEqual(suite, rows)
-        self.assertTrue(all(one is other for one, other in zip(suite, rows)))
+        for file, name, given in CALLS:
+            if "suite" in given:
+                suite = [(0, 0, 0), (1, 1, 1), (0, 0, 0)]
+                rows = list(suite)
+                getattr(file, name)(**{**given, "suite": suite})
+                self.assertEqual(suite, rows)
+                self.assertTrue(all(one is other for one, other in zip(suite, rows)))
 
 
 class Errors(unittest.TestCase):
@@ -133,14 +108,13 @@ class Errors(unittest.TestCase):
 
     def test_one_wrong_argument(self):
         for file, name, given in CALLS:
-            for key in given:
-                if key in WRONG:
-                    for value, told in WRONG[key][2]:
-                        self.assert_first_error(getattr(file, name), {**given, key: value}, key, value, told)
+            for key in refused_of(name, given):
+                for value, told in WRONG[key][2]:
+                    self.assert_first_error(getattr(file, name), {**given, key: value}, key, value, told)
 
     def test_of_several_wrong_arguments_the_first(self):
         for file, name, given in CALLS:
-            keys = [key for key in given if key in WRONG]
+            keys = refused_of(name, given)
             for chosen in product((False, True), repeat=len(keys)):
                 wrong = [key for key, is_wrong in zip(keys, chosen) if is_wrong]
                 for number in range(3):
@@ -149,31 +123,54 @@ class Errors(unittest.TestCase):
                         value, told = WRONG[wrong[0]][2][number]
                         self.assert_first_error(getattr(file, name), passed, wrong[0], value, told)
 
-    def test_wrong_first_arguments_with_great_ones(self):
-        great = ((4, 4, 4, 4, 4), ())
-        for name in ("all_faults", "classes"):
-            call = getattr(faults_file, name)
-            with self.assertRaises(TooGreat):
-                call(great, (3, 2))
-            with self.assertRaises(BadShape):
-                call(great, (3, True))
-            with self.assertRaises(BadRig):
-                call(((4, 4, 4, 4, 4), []), (3, 2))
-
     def test_is_let_refuses_no_value(self):
         for value in (None, True, "", [], {}, (None,), [[1, 1, 1]], RIG):
             self.assertIs(rigs_file.is_let(RIG, value), False)
             with self.assertRaises(BadRig):
                 rigs_file.is_let(None, value)
 
-    def test_too_great_is_not_raised_where_not_all_faults_are_gone_through(self):
-        great, shape, one = ((4, 4, 4, 4, 4), ()), (3, 2), (((0, 0), (1, 0), (2, 0)),)
-        row = (0, 0, 0, 0, 0)
+
+class Greatness(unittest.TestCase):
+
+    def assert_too_great(self, file, name, passed, most):
+        with self.assertRaises(TooGreat) as caught:
+            getattr(file, name)(**passed)
+        self.assertEqual(caught.exception.most, most, name)
+
+    def test_too_great_is_raised_just_where_it_is_told(self):
+        for file, name, given in CALLS:
+            if name in TOO_GREAT:
+                self.assert_too_great(file, name, great_of(name, given), TOO_GREAT[name])
+            else:
+                getattr(file, name)(**great_of(name, given))
+
+    def test_other_errors_come_first(self):
+        for file, name, given in CALLS:
+            for key in refused_of(name, given):
+                kind, _, values = WRONG[key]
+                with self.assertRaises(kind):
+                    getattr(file, name)(**{**great_of(name, given), key: values[0][0]})
+
+    def test_papers(self):
+        for file, name, given in CALLS:
+            for paper in HEAVY_PAPERS.get(name, ()):
+                self.assert_too_great(file, name, {**great_of(name, given), "paper": paper}, 2000)
+            if name in HEAVY_PAPERS:
+                light = LIGHT_PAPERS[name]
+                with self.assertRaises(BadPaper) as caught:
+                    getattr(file, name)(**{**great_of(name, given), "paper": light[:-1] + (None,)})
+                self.assertEqual(caught.exception.word, light[0])
+
+    def test_by_hand(self):
+        great, shape, one, row = GREAT["rig"], GREAT["shape"], GREAT["one"], GREAT["value"]
         self.assertEqual(faults_file.need_shape(great, shape), shape)
         self.assertEqual(faults_file.outcomes(great, shape, one, [row]), (True,))
         self.assertIs(faults_file.are_alike(great, shape, one, ()), False)
         self.assertEqual(len(faults_file.parting_rows(great, shape, one, ())), 16)
         self.assertIn(row, faults_file.failing_rows(great, shape, one))
+        self.assertEqual(len(faults_file.classes(RIG, SHAPE)), len({
+            faults_file.failing_rows(RIG, SHAPE, faults) for faults in faults_file.all_faults(RIG, SHAPE)}))
+        self.assertIn(ONE, faults_file.all_faults(RIG, SHAPE))
 
 
 if __name__ == "__main__":

@@ -1,0 +1,8 @@
+"""What papers of all kinds have in common."""
+
+from rowsthatname.rigs import is_tuple
+
+
+def has_form(paper, word, many):
+    """Whether a value is a tuple of so many things with a word first."""
+    return is_tuple(paper, many, many) and paper[0] == word

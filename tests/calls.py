@@ -1,0 +1,109 @@
+"""A valid call of each function of the interface, and what is wrong in the place of each argument."""
+
+from rowsthatname import detecting as detecting_file
+from rowsthatname import faults as faults_file
+from rowsthatname import hearing as hearing_file
+from rowsthatname import naming as naming_file
+from rowsthatname import rigs as rigs_file
+from rowsthatname.errors import (BadFaults, BadLot, BadNumber, BadOutcomes, BadPaper, BadRig, BadShape, BadSuite)
+
+RIG = ((2, 3, 2), (((0, 0), (1, 1)), ((1, 2),)))
+SHAPE = (2, 2)
+ONE = (((0, 0), (1, 0)), ((0, 1), (2, 0)))
+OTHER = (((0, 1), (1, 1)),)
+SUITE = [(0, 0, 0), (1, 1, 1), (0, 0, 0)]
+HEARD = (True, False, True)
+LOT = ((0, 0), (1, 0))
+
+OF_RIG = {"rig": RIG}
+OF_SHAPE = {"rig": RIG, "shape": SHAPE}
+OF_PAIR = {**OF_SHAPE, "one": ONE, "other": OTHER}
+OF_SUITE = {**OF_SHAPE, "suite": SUITE}
+OF_WRONG = {**OF_SUITE, "wrong": 1}
+OF_HEARD = {**OF_SUITE, "heard": HEARD}
+OF_TOLD = {**OF_HEARD, "wrong": 1}
+
+CALLS = (
+    (rigs_file, "need_rig", OF_RIG),
+    (rigs_file, "need_lot", {**OF_RIG, "lot": ((0, 1), (1, 1))}),
+    (rigs_file, "is_let", {**OF_RIG, "value": (1, 1, 1)}),
+    (rigs_file, "let_rows", OF_RIG),
+    (rigs_file, "rows_meeting", {**OF_RIG, "lot": ((0, 1),)}),
+    (rigs_file, "is_met", {**OF_RIG, "lot": ((0, 1),)}),
+    (faults_file, "need_shape", OF_SHAPE),
+    (faults_file, "all_faults", OF_SHAPE),
+    (faults_file, "outcomes", {**OF_SHAPE, "faults": ONE, "suite": SUITE}),
+    (faults_file, "classes", OF_SHAPE),
+    (faults_file, "are_alike", OF_PAIR),
+    (faults_file, "parting_rows", OF_PAIR),
+    (faults_file, "failing_rows", {**OF_SHAPE, "faults": ONE}),
+    (naming_file, "names", OF_SUITE),
+    (naming_file, "bears", OF_WRONG),
+    (naming_file, "mixed_pair", OF_WRONG),
+    (naming_file, "margin", OF_SUITE),
+    (naming_file, "mixed_lots", OF_SUITE),
+    (naming_file, "name_paper", OF_WRONG),
+    (naming_file, "check_names", {**OF_WRONG, "paper": ("mixed", (), (LOT,), (0, 0, 0))}),
+    (hearing_file, "fitting", OF_TOLD),
+    (hearing_file, "fitting_classes", OF_TOLD),
+    (hearing_file, "is_named", OF_TOLD),
+    (hearing_file, "verdict", {**OF_TOLD, "lot": LOT}),
+    (hearing_file, "sure_lots", OF_TOLD),
+    (hearing_file, "possible_lots", OF_TOLD),
+    (hearing_file, "least_wrong", OF_HEARD),
+    (hearing_file, "wrong_rows", OF_TOLD),
+    (detecting_file, "detects", OF_WRONG),
+    (detecting_file, "hidden_case", OF_WRONG),
+    (detecting_file, "least_shown", OF_SUITE),
+    (detecting_file, "hidden_lots", OF_SUITE),
+    (detecting_file, "suspects", OF_TOLD),
+    (detecting_file, "detect_paper", OF_WRONG),
+    (detecting_file, "check_detects", {**OF_WRONG, "paper": ("hidden", LOT, ())}),
+    (detecting_file, "first_detecting", OF_SUITE),
+    (detecting_file, "hidden_behind", {**OF_SUITE, "many": 2}),
+    (detecting_file, "meeting_counts", OF_SUITE),
+)
+
+# Arguments of which nothing is refused.
+ANY_VALUE = (("is_let", "value"), ("verdict", "lot"))
+
+# For each argument its error, the field of it, and wrong values with what the field is then.
+# The first one is wrong by any rig and shape.
+WRONG = {
+    "rig": (BadRig, "path", ((None, ()), (((2,), []), (1,)), (((2, True), ()), (0, 1)),
+                             (((2,), (((0, 0),), ((0, 0),))), (1, 1)))),
+    "lot": (BadLot, "value", ((None, None), (((0, 2),), ((0, 2),)), ([(0, 0)], [(0, 0)]))),
+    "shape": (BadShape, "value", ((None, None), ((4, 1), (4, 1)), ([2, 2], [2, 2]))),
+    "faults": (BadFaults, "value", ((None, None), ((((0, 0), (1, 1)),), (((0, 0), (1, 1)),)), ([], []))),
+    "suite": (BadSuite, "place", ((None, None), ([(0, 0, 0), (0, 2, 0)], 1), ([(0, 0, 0)] * 41, None))),
+    "heard": (BadOutcomes, "value", ((None, None), ((True, False), (True, False)),
+                                     ([True, False, True], [True, False, True]), ((True, 0, 1), (True, 0, 1)))),
+    "wrong": (BadNumber, "value", ((None, None), (-1, -1), (6, 6), (True, True))),
+    "many": (BadNumber, "value", ((None, None), (-1, -1), (4, 4), (True, True))),
+    "paper": (BadPaper, "word", ((None, "form"), (("bears",), "form"), (["bears", ()], "form"))),
+}
+WRONG["one"] = WRONG["other"] = WRONG["faults"]
+
+# Arguments by which a rig and a shape are too great, and what TooGreat then tells of each function that raises it.
+GREAT = {"rig": ((4, 4, 4, 4, 4), ()), "shape": (3, 2), "lot": ((0, 0), (1, 0), (2, 0)), "value": (0, 0, 0, 0, 0),
+         "faults": (((0, 0), (1, 0), (2, 0)),), "one": (((0, 0), (1, 0), (2, 0)),), "other": (),
+         "suite": [(0, 0, 0, 0, 0)], "heard": (True,), "wrong": 0, "many": 1}
+TOO_GREAT = {name: 2000 for name in (
+    "all_faults", "classes", "names", "bears", "mixed_pair", "margin", "mixed_lots", "name_paper", "fitting",
+    "fitting_classes", "is_named", "verdict", "sure_lots", "possible_lots", "least_wrong", "wrong_rows", "detects",
+    "hidden_case", "least_shown", "hidden_lots", "detect_paper", "first_detecting", "hidden_behind")}
+# Papers that are looked at without going through all faults, and such of which this has to be done.
+LIGHT_PAPERS = {"check_names": ("mixed", (), (((0, 0), (1, 0), (2, 1)),), (0, 0, 1, 0, 1)),
+                "check_detects": ("hidden", ((0, 0), (1, 0), (2, 1)), ())}
+HEAVY_PAPERS = {"check_names": (("bears", ()), ("bears", None)),
+                "check_detects": (("detects", ()), ("detects", None))}
+
+
+def refused_of(name, given):
+    """The arguments of a function of which wrong values are refused, in their order."""
+    return [key for key in given if key in WRONG and (name, key) not in ANY_VALUE]
+
+
+def great_of(name, given):
+    """The arguments of a function with a rig and a shape that are too great for many."""
+    return {key: LIGHT_PAPERS[name] if key == "paper" else GREAT[key] for key in given}
