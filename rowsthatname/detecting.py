@@ -4,7 +4,7 @@ from rowsthatname.bits import bits_of, count_bits, numbers_in
 from rowsthatname.errors import BadPaper
 from rowsthatname.faults import MOST_ROWS, all_faults, is_faults, let_marks, lot_marks, lots_that_can_fail
 from rowsthatname.faults import need_heard, need_rows, need_wrong, signs_by
-from rowsthatname.papers import has_form
+from rowsthatname.papers import has_form, word_of
 from rowsthatname.rigs import is_lot, is_number, is_tuple, meets, meets_any, need_number
 
 
@@ -106,13 +106,9 @@ def check_detects(rig, shape, suite, wrong, paper):
     need_rows(rig, shape, suite)
     need_wrong(wrong)
     if has_form(paper, "detects", 2):
-        if not holds_detects(rig, shape, suite, wrong, paper[1]):
-            raise BadPaper("detects")
-        return "detects"
+        return word_of("detects", holds_detects(rig, shape, suite, wrong, paper[1]))
     if has_form(paper, "hidden", 3):
-        if not holds_hidden(rig, shape, suite, wrong, paper[1], paper[2]):
-            raise BadPaper("hidden")
-        return "hidden"
+        return word_of("hidden", holds_hidden(rig, shape, suite, wrong, paper[1], paper[2]))
     raise BadPaper("form")
 
 

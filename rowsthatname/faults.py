@@ -81,12 +81,16 @@ def need_wrong(wrong):
     return need_number(wrong, 0, MOST_WRONG)
 
 
+def lots_met(row, size):
+    """The lots of so many settings that a row meets."""
+    return [tuple([(knob, row[knob]) for knob in knobs]) for knobs in combinations(range(len(row)), int(size))]
+
+
 def lot_marks(rows, size):
     """A dict of each lot of so many settings that some row meets: the numbers of those rows, as bits of an integer."""
     marks = {}
     for number, row in enumerate(rows):
-        for knobs in combinations(range(len(row)), int(size)):
-            lot = tuple([(knob, row[knob]) for knob in knobs])
+        for lot in lots_met(row, size):
             marks[lot] = marks.get(lot, 0) | (1 << number)
     return marks
 
@@ -153,6 +157,15 @@ def classes(rig, shape):
         alike.setdefault(sign, []).append(faults)
     # A dict keeps the order of its keys, so the classes stand as their first ones do.
     return tuple([tuple(group) for group in alike.values()])
+
+
+def let_bits(rig, suite):
+    """The numbers of the let rows that are in a suite, as bits."""
+    bits = 0
+    for number, row in enumerate(let_rows(rig)):
+        if row in suite:
+            bits = bits | (1 << number)
+    return bits
 
 
 def first_ones(rig, shape):

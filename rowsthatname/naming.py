@@ -4,7 +4,7 @@ from rowsthatname.bits import count_bits, outcomes_of
 from rowsthatname.errors import BadPaper
 from rowsthatname.faults import first_ones, is_faults, is_outcomes, let_marks
 from rowsthatname.faults import need_rows, need_wrong, parting_rows, signs_by
-from rowsthatname.papers import has_form
+from rowsthatname.papers import has_form, word_of
 from rowsthatname.rigs import is_let, meets_any
 
 
@@ -112,11 +112,7 @@ def check_names(rig, shape, suite, wrong, paper):
     need_rows(rig, shape, suite)
     need_wrong(wrong)
     if has_form(paper, "bears", 2):
-        if not holds_bears(rig, shape, suite, wrong, paper[1]):
-            raise BadPaper("bears")
-        return "bears"
+        return word_of("bears", holds_bears(rig, shape, suite, wrong, paper[1]))
     if has_form(paper, "mixed", 4):
-        if not holds_mixed(rig, shape, suite, wrong, paper[1:]):
-            raise BadPaper("mixed")
-        return "mixed"
+        return word_of("mixed", holds_mixed(rig, shape, suite, wrong, paper[1:]))
     raise BadPaper("form")

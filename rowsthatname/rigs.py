@@ -37,9 +37,9 @@ def is_setting(values, value):
     return is_number(knob, 0, len(values) - 1) and is_number(worth, 0, values[knob] - 1)
 
 
-def is_lot(values, value):
-    """Whether a value is a lot of knobs with so many values."""
-    if not is_tuple(value, 1, MOST_SETTINGS):
+def is_settings(values, value, least, most):
+    """Whether a value is an ascending tuple of so many settings of unlike knobs."""
+    if not is_tuple(value, least, most):
         return False
     last_knob = -1
     for setting in value:
@@ -48,6 +48,11 @@ def is_lot(values, value):
             return False
         last_knob = setting[0]
     return True
+
+
+def is_lot(values, value):
+    """Whether a value is a lot of knobs with so many values."""
+    return is_settings(values, value, 1, MOST_SETTINGS)
 
 
 def is_row(values, value):

@@ -1,8 +1,12 @@
 """A valid call of each function of the interface, and what is wrong in the place of each argument."""
 
+from rowsthatname import built as built_file
+from rowsthatname import covers as covers_file
 from rowsthatname import detecting as detecting_file
 from rowsthatname import faults as faults_file
+from rowsthatname import further as further_file
 from rowsthatname import hearing as hearing_file
+from rowsthatname import lean as lean_file
 from rowsthatname import naming as naming_file
 from rowsthatname import rigs as rigs_file
 from rowsthatname.errors import (BadFaults, BadLot, BadNumber, BadOutcomes, BadPaper, BadRig, BadShape, BadSuite)
@@ -22,6 +26,8 @@ OF_SUITE = {**OF_SHAPE, "suite": SUITE}
 OF_WRONG = {**OF_SUITE, "wrong": 1}
 OF_HEARD = {**OF_SUITE, "heard": HEARD}
 OF_TOLD = {**OF_HEARD, "wrong": 1}
+OF_COVER = {**OF_RIG, "size": 2, "suite": SUITE}
+OF_MOST = {**OF_SUITE, "most": 1}
 
 CALLS = (
     (rigs_file, "need_rig", OF_RIG),
@@ -62,6 +68,30 @@ CALLS = (
     (detecting_file, "first_detecting", OF_SUITE),
     (detecting_file, "hidden_behind", {**OF_SUITE, "many": 2}),
     (detecting_file, "meeting_counts", OF_SUITE),
+    (covers_file, "lacking", OF_COVER),
+    (covers_file, "is_cover", OF_COVER),
+    (covers_file, "strength", {**OF_RIG, "suite": SUITE}),
+    (covers_file, "least_met", OF_COVER),
+    (covers_file, "enough_settings", OF_SHAPE),
+    (covers_file, "cover_paper", OF_COVER),
+    (covers_file, "check_cover", {**OF_COVER, "paper": ("lacks", ((1, 0), (2, 1)), (1, 0, 1))}),
+    (covers_file, "greedy_cover", {**OF_RIG, "size": 2}),
+    (further_file, "further_rows", OF_MOST),
+    (further_file, "fewest_further", OF_MOST),
+    (further_file, "further_paper", OF_MOST),
+    (further_file, "check_further", {**OF_SUITE, "most": 0, "paper": ("tree", ((), (((0, 1), (2, 0)),), ()))}),
+    (lean_file, "needless_rows", OF_SUITE),
+    (lean_file, "lean_suite", OF_SUITE),
+    (lean_file, "idle_rows", OF_SUITE),
+    (lean_file, "split_by", {**OF_HEARD, "row": (1, 0, 1)}),
+    (lean_file, "next_row", OF_HEARD),
+    (lean_file, "worst_after", OF_HEARD),
+    (built_file, "mixed_count", OF_SUITE),
+    (built_file, "built_suite", OF_SUITE),
+    (built_file, "exchanges", {**OF_SUITE, "number": 1}),
+    (built_file, "least_by_count", OF_SHAPE),
+    (built_file, "apart_pairs", OF_SHAPE),
+    (built_file, "check_apart", {**OF_SHAPE, "pairs": (((), (LOT,)),)}),
 )
 
 # Arguments of which nothing is refused.
@@ -80,6 +110,11 @@ WRONG = {
                                      ([True, False, True], [True, False, True]), ((True, 0, 1), (True, 0, 1)))),
     "wrong": (BadNumber, "value", ((None, None), (-1, -1), (6, 6), (True, True))),
     "many": (BadNumber, "value", ((None, None), (-1, -1), (4, 4), (True, True))),
+    "size": (BadNumber, "value", ((None, None), (0, 0), (4, 4), (True, True))),
+    "most": (BadNumber, "value", ((None, None), (-1, -1), (4, 4), (True, True))),
+    "number": (BadNumber, "value", ((None, None), (-1, -1), (3, 3), (True, True))),
+    "row": (BadNumber, "value", ((None, None), ((0, 1, 0), (0, 1, 0)), ([0, 0, 0], [0, 0, 0]))),
+    "pairs": (BadPaper, "word", ((None, "pairs"), ([], "pairs"), (((),), "pairs"))),
     "paper": (BadPaper, "word", ((None, "form"), (("bears",), "form"), (["bears", ()], "form"))),
 }
 WRONG["one"] = WRONG["other"] = WRONG["faults"]
@@ -87,16 +122,23 @@ WRONG["one"] = WRONG["other"] = WRONG["faults"]
 # Arguments by which a rig and a shape are too great, and what TooGreat then tells of each function that raises it.
 GREAT = {"rig": ((4, 4, 4, 4, 4), ()), "shape": (3, 2), "lot": ((0, 0), (1, 0), (2, 0)), "value": (0, 0, 0, 0, 0),
          "faults": (((0, 0), (1, 0), (2, 0)),), "one": (((0, 0), (1, 0), (2, 0)),), "other": (),
-         "suite": [(0, 0, 0, 0, 0)], "heard": (True,), "wrong": 0, "many": 1}
+         "suite": [(0, 0, 0, 0, 0)], "heard": (True,), "wrong": 0, "many": 1, "size": 2, "most": 0, "number": 0,
+         "row": (0, 0, 0, 0, 0), "pairs": (((), (((0, 0), (1, 0), (2, 0)),)),)}
 TOO_GREAT = {name: 2000 for name in (
     "all_faults", "classes", "names", "bears", "mixed_pair", "margin", "mixed_lots", "name_paper", "fitting",
     "fitting_classes", "is_named", "verdict", "sure_lots", "possible_lots", "least_wrong", "wrong_rows", "detects",
-    "hidden_case", "least_shown", "hidden_lots", "detect_paper", "first_detecting", "hidden_behind")}
+    "hidden_case", "least_shown", "hidden_lots", "detect_paper", "first_detecting", "hidden_behind", "needless_rows",
+    "lean_suite", "idle_rows", "split_by", "next_row", "worst_after", "mixed_count", "built_suite", "exchanges",
+    "least_by_count", "apart_pairs")}
+TOO_GREAT.update({name: 36 for name in ("further_rows", "fewest_further", "further_paper")})
 # Papers that are looked at without going through all faults, and such of which this has to be done.
 LIGHT_PAPERS = {"check_names": ("mixed", (), (((0, 0), (1, 0), (2, 1)),), (0, 0, 1, 0, 1)),
-                "check_detects": ("hidden", ((0, 0), (1, 0), (2, 1)), ())}
+                "check_detects": ("hidden", ((0, 0), (1, 0), (2, 1)), ()),
+                "check_cover": ("lacks", ((0, 0), (1, 1)), (0, 1, 0, 0, 0)),
+                "check_further": ("tree", ((), (((0, 0), (1, 0), (2, 1)),), ()))}
 HEAVY_PAPERS = {"check_names": (("bears", ()), ("bears", None)),
-                "check_detects": (("detects", ()), ("detects", None))}
+                "check_detects": (("detects", ()), ("detects", None)),
+                "check_further": (("rows", ()), ("rows", None))}
 
 
 def refused_of(name, given):

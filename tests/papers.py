@@ -1,5 +1,6 @@
 """Which papers hold, by the document's words, and papers with one thing changed."""
 
+from rowsthatname.errors import BadPaper
 from tests import plain
 
 STRANGE = (None, True, False, 0, 1, 2, -1, 10 ** 999, "", "a", "form", b"", (), [], {}, (None,), [()], {0: 0}, set(),
@@ -63,11 +64,36 @@ def is_one_of(value, those):
     return exactly(value) in {exactly(thing) for thing in those}
 
 
-def form_of(paper, forms):
-    """The word of a paper that has one of the forms, or None."""
-    if not isinstance(paper, tuple) or not paper or not isinstance(paper[0], str):
-        return None
-    return paper[0] if forms.get(paper[0]) == len(paper) else None
+class Judging:
+    """Beside a TestCase: whether papers are taken, and refused, as the document says.
+
+    check is the function that takes them; forms has, for each word, of how many things
+    such a paper is, and what tells whether they are as the document says.
+    """
+
+    def assert_bad(self, *given):
+        """That what is passed, the paper last, is refused with the word behind it."""
+        *passed, word = given
+        with self.assertRaises(BadPaper) as caught:
+            self.check(*passed)
+        self.assertEqual(caught.exception.word, word, passed[-1])
+
+    def assert_judged(self, *given):
+        """That the paper, the last thing passed, is judged as it should be; whether it is taken."""
+        *passed, paper = given
+        word = self.word_of(paper)
+        if word is not None and self.forms[word][1](*passed, *paper[1:]):
+            self.assertEqual(self.check(*given), word)
+            return True
+        self.assert_bad(*given, word or "form")
+        return False
+
+    def word_of(self, paper):
+        """The word of a paper that has one of the forms, or None."""
+        if not isinstance(paper, tuple) or not paper or not isinstance(paper[0], str):
+            return None
+        many, _ = self.forms.get(paper[0], (None, None))
+        return paper[0] if many == len(paper) else None
 
 
 def is_bears(rig, shape, suite, wrong, signs):
@@ -102,3 +128,50 @@ def is_detects(rig, shape, suite, wrong, numbers):
 def is_hidden(rig, shape, suite, wrong, lot, faults):
     """Whether these are a case such that too few rows show the lot."""
     return is_one_of((lot, faults), plain.hidden_cases(rig, shape, suite, wrong))
+
+
+def is_covers(rig, size, suite, numbers):
+    """Whether these are, for each asked lot, the number of a row that meets it."""
+    lots = plain.asked(rig, size)
+    return (isinstance(numbers, tuple) and len(numbers) == len(lots)
+            and all(type(number) is int and 0 <= number < len(suite) and plain.is_meeting(suite[number], lot)
+                    for number, lot in zip(numbers, lots)))
+
+
+def is_lacks(rig, size, suite, lot, row):
+    """Whether these are an asked lot that no row meets, and a let row that does."""
+    return (is_one_of(lot, plain.lacking(rig, size, suite)) and is_one_of(row, plain.let_rows(rig))
+            and plain.is_meeting(row, lot))
+
+
+def is_rows(rig, shape, suite, most, rows):
+    """Whether these are at most so many let rows, behind which the suite names the faults."""
+    return (isinstance(rows, tuple) and len(rows) <= most
+            and all(is_one_of(row, plain.let_rows(rig)) for row in rows)
+            and plain.names(rig, shape, tuple(suite) + rows))
+
+
+def is_tree(rig, shape, suite, depth, tree):
+    """Whether this is a tree of a depth beside a suite."""
+    if not isinstance(tree, tuple) or len(tree) != 3:
+        return False
+    one, other, trees = tree
+    every = plain.all_faults(rig, shape)
+    if not is_one_of(one, every) or not is_one_of(other, every) or plain.is_alike(rig, one, other):
+        return False
+    if plain.outcomes(one, suite) != plain.outcomes(other, suite):
+        return False
+    rows = plain.parting_rows(rig, one, other) if depth else ()
+    return (isinstance(trees, tuple) and len(trees) == len(rows)
+            and all(is_tree(rig, shape, tuple(suite) + (row,), depth - 1, below) for row, below in zip(rows, trees)))
+
+
+def is_pairs(rig, shape, pairs):
+    """Whether these are apart pairs."""
+    every = plain.all_faults(rig, shape)
+    if not isinstance(pairs, tuple) or not all(isinstance(pair, tuple) and len(pair) == 2 for pair in pairs):
+        return False
+    if not all(is_one_of(faults, every) for pair in pairs for faults in pair):
+        return False
+    parting = [set(plain.parting_rows(rig, *pair)) for pair in pairs]
+    return all(parting) and sum(len(rows) for rows in parting) == len(set().union(*parting))

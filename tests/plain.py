@@ -188,3 +188,117 @@ def suspects(rig, shape, suite, heard, wrong):
     """All lots of whose rows at most so many were heard to be good."""
     return tuple(sorted(lot for lot in can_fail(rig, shape[0]) if wrong >= sum(
         is_meeting(row, lot) and not failed for row, failed in zip(suite, heard))))
+
+
+@lru_cache(maxsize=None)
+def asked(rig, size):
+    """All asked lots."""
+    rows = let_rows(rig)
+    return sorted(lot for lot in lots_of(rig[0], size) if any(is_meeting(row, lot) for row in rows))
+
+
+def lacking(rig, size, suite):
+    """All asked lots that no row meets."""
+    return tuple(lot for lot in asked(rig, size) if not any(is_meeting(row, lot) for row in suite))
+
+
+def least_met(rig, size, suite):
+    """How many rows meet an asked lot at least, or None."""
+    return min((sum(is_meeting(row, lot) for row in suite) for lot in asked(rig, size)), default=None)
+
+
+def greedy_cover(rig, size):
+    """The rows that are taken greedily, however many."""
+    taken = []
+    while lacking(rig, size, taken):
+        wanted = lacking(rig, size, taken)
+        most = max(sum(is_meeting(row, lot) for lot in wanted) for row in let_rows(rig))
+        taken.append([row for row in let_rows(rig) if sum(is_meeting(row, lot) for lot in wanted) == most][0])
+    return tuple(taken)
+
+
+def names(rig, shape, rows):
+    """Whether rows, perhaps more than 40, name the faults."""
+    told = [outcomes(faults, rows) for faults in firsts(rig, shape)]
+    return len(set(told)) == len(told)
+
+
+def fewest_further(rig, shape, suite, most):
+    """How many further rows are the fewest that are enough, all of them tried; None if they are more than most."""
+    for many in range(most + 1):
+        for rows in combinations(let_rows(rig), many):
+            if names(rig, shape, tuple(suite) + rows):
+                return many
+    return None
+
+
+def partition(rig, shape, suite):
+    """Which faults have the same outcomes."""
+    groups = {}
+    for faults in all_faults(rig, shape):
+        groups.setdefault(outcomes(faults, suite), set()).add(faults)
+    return {frozenset(group) for group in groups.values()}
+
+
+def needless_rows(rig, shape, suite):
+    """The numbers of the needless rows."""
+    suite = tuple(suite)
+    whole = partition(rig, shape, suite)
+    return tuple(number for number in range(len(suite))
+                 if partition(rig, shape, suite[:number] + suite[number + 1:]) == whole)
+
+
+def lean_suite(rig, shape, suite):
+    """What is left if each row that is needless is left out at once, from the first one on."""
+    left, number = tuple(suite), 0
+    while number < len(left):
+        if number in needless_rows(rig, shape, left):
+            left = left[:number] + left[number + 1:]
+        else:
+            number += 1
+    return left
+
+
+def idle_rows(rig, shape, suite):
+    """All let rows that are idle behind a suite."""
+    whole = partition(rig, shape, suite)
+    return tuple(row for row in let_rows(rig) if partition(rig, shape, tuple(suite) + (row,)) == whole)
+
+
+def halves(rig, shape, suite, heard, row):
+    """By how many of the classes that fit a row fails, and by how many it does not."""
+    fit = [faults for faults in firsts(rig, shape) if outcomes(faults, suite) == heard]
+    return sum(is_failing(row, faults) for faults in fit), sum(not is_failing(row, faults) for faults in fit)
+
+
+def mixed_count(rig, shape, suite):
+    """How many pairs of classes have the same outcomes."""
+    told = [outcomes(faults, suite) for faults in firsts(rig, shape)]
+    return sum(one == other for one, other in combinations(told, 2))
+
+
+def built_suite(rig, shape, suite):
+    """The suite that is built on a suite, however long."""
+    built = tuple(suite)
+    while not names(rig, shape, built):
+        counts = [mixed_count(rig, shape, built + (row,)) for row in let_rows(rig)]
+        built += (let_rows(rig)[counts.index(min(counts))],)
+    return built
+
+
+def exchanges(rig, shape, suite, number):
+    """All let rows that can stand for a row."""
+    suite = tuple(suite)
+    whole = partition(rig, shape, suite)
+    return tuple(row for row in let_rows(rig)
+                 if partition(rig, shape, suite[:number] + (row,) + suite[number + 1:]) == whole)
+
+
+def apart_pairs(rig, shape):
+    """The apart pairs that are taken in order."""
+    taken, parted = [], set()
+    for one, other in combinations(firsts(rig, shape), 2):
+        if not parted & set(parting_rows(rig, one, other)):
+            taken.append((one, other))
+            parted |= set(parting_rows(rig, one, other))
+    return tuple(taken)

@@ -1,7 +1,8 @@
 import unittest
 
 from rowsthatname.bits import bits_of, count_bits, numbers_in, outcomes_of
-from rowsthatname.papers import has_form
+from rowsthatname.errors import BadPaper
+from rowsthatname.papers import has_form, word_of
 
 
 class Bits(unittest.TestCase):
@@ -28,6 +29,12 @@ class Forms(unittest.TestCase):
         for paper in (None, "bears", (), ("bears",), ("bears", 1, 2), ["bears", 1], ("mixed", 1), (b"bears", 1),
                       (("bears",), 1), (None, 1), {"bears": 1, 2: 3}):
             self.assertIs(has_form(paper, "bears", 2), False)
+
+    def test_the_word_of_what_holds(self):
+        self.assertEqual(word_of("bears", True), "bears")
+        with self.assertRaises(BadPaper) as caught:
+            word_of("mixed", False)
+        self.assertEqual(caught.exception.word, "mixed")
 
 
 if __name__ == "__main__":

@@ -6,16 +6,23 @@ from rowsthatname.detecting import (check_detects, detect_paper, detects, first_
 from rowsthatname.errors import BadNumber, BadOutcomes, BadPaper, BadSuite, TooGreat
 from rowsthatname.naming import bears
 from tests import plain
-from tests.papers import NO_PAPERS, changes, form_of, is_detects, is_hidden
+from tests.papers import NO_PAPERS, Judging, changes, is_detects, is_hidden
 from tests.samples import (BARRED_2, NO_INTEGERS, NONE_LET, ODD, ONE_LET, OPEN_1, OPEN_2, OPEN_5, WIDE, small_cases,
                            suites_of, tiny_cases, turned)
 
-FORMS = {"detects": 2, "hidden": 3}
 LOT_A, LOT_B, LOT_C = ((0, 0),), ((0, 1),), ((0, 2),)
 ALL_ROWS = [(0,), (1,), (2,)]
 
 
-class ByHand(unittest.TestCase):
+class Judged(Judging):
+    """The papers of this part, and what takes them."""
+
+    check = staticmethod(check_detects)
+    forms = {"detects": (2, is_detects), "hidden": (3, is_hidden)}
+
+
+
+class ByHand(Judged, unittest.TestCase):
 
     def test_one_knob(self):
         self.assertIs(detects(OPEN_1, (1, 2), ALL_ROWS, 0), True)
@@ -90,11 +97,6 @@ class ByHand(unittest.TestCase):
         self.assert_bad(OPEN_1, (1, 1), ALL_ROWS, 1, ("hidden", LOT_B, (LOT_A, LOT_C)), "hidden")
         self.assertEqual(check_detects(OPEN_1, (1, 2), ALL_ROWS, 1, ("hidden", LOT_B, (LOT_A, LOT_C))), "hidden")
         self.assert_bad(OPEN_1, (1, 1), ALL_ROWS, 0, ("hidden", LOT_B, (LOT_C,)), "hidden")
-
-    def assert_bad(self, rig, shape, suite, wrong, paper, word):
-        with self.assertRaises(BadPaper) as caught:
-            check_detects(rig, shape, suite, wrong, paper)
-        self.assertEqual(caught.exception.word, word)
 
 
 class ManyRigs(unittest.TestCase):
@@ -189,18 +191,7 @@ class ManyRigs(unittest.TestCase):
         self.assertTrue({(wrong, True) for wrong in range(6)} <= detecting)
 
 
-class Papers(unittest.TestCase):
-
-    def assert_judged(self, rig, shape, suite, wrong, paper):
-        word = form_of(paper, FORMS)
-        holds = {"detects": is_detects, "hidden": is_hidden}
-        if word is not None and holds[word](rig, shape, suite, wrong, *paper[1:]):
-            self.assertEqual(check_detects(rig, shape, suite, wrong, paper), word)
-            return True
-        with self.assertRaises(BadPaper) as caught:
-            check_detects(rig, shape, suite, wrong, paper)
-        self.assertEqual(caught.exception.word, word or "form", paper)
-        return False
+class Papers(Judged, unittest.TestCase):
 
     def test_papers_with_one_thing_changed(self):
         taken = {"detects": 0, "hidden": 0}

@@ -5,15 +5,22 @@ from rowsthatname.errors import BadNumber, BadPaper, BadSuite, TooGreat
 from rowsthatname.hearing import fitting
 from rowsthatname.naming import bears, check_names, margin, mixed_lots, mixed_pair, name_paper, names
 from tests import plain
-from tests.papers import NO_PAPERS, changes, form_of, is_bears, is_mixed
+from tests.papers import NO_PAPERS, Judging, changes, is_bears, is_mixed
 from tests.samples import (NO_INTEGERS, NONE_LET, ODD, ONE_LET, OPEN_1, OPEN_2, OPEN_5, small_cases, suites_of,
                            tiny_cases, turned)
 
-FORMS = {"bears": 2, "mixed": 4}
 A, B, C = (((0, 0),),), (((0, 1),),), (((0, 2),),)
 
 
-class ByHand(unittest.TestCase):
+class Judged(Judging):
+    """The papers of this part, and what takes them."""
+
+    check = staticmethod(check_names)
+    forms = {"bears": (2, is_bears), "mixed": (4, is_mixed)}
+
+
+
+class ByHand(Judged, unittest.TestCase):
 
     def test_one_knob(self):
         self.assertIs(names(OPEN_1, (1, 1), []), False)
@@ -78,11 +85,6 @@ class ByHand(unittest.TestCase):
                          ((((0, 0), (1, 0)),), (((0, 0), (1, 0)), ((0, 0), (2, 0)))))
         self.assertEqual(check_names(OPEN_5, (2, 2), rows, 1, name_paper(OPEN_5, (2, 2), rows, 1)), "bears")
 
-    def assert_bad(self, rig, shape, suite, wrong, paper, word):
-        with self.assertRaises(BadPaper) as caught:
-            check_names(rig, shape, suite, wrong, paper)
-        self.assertEqual(caught.exception.word, word)
-
 
 class ManyRigs(unittest.TestCase):
 
@@ -144,18 +146,7 @@ class ManyRigs(unittest.TestCase):
         return True
 
 
-class Papers(unittest.TestCase):
-
-    def assert_judged(self, rig, shape, suite, wrong, paper):
-        word = form_of(paper, FORMS)
-        holds = {"bears": is_bears, "mixed": is_mixed}
-        if word is not None and holds[word](rig, shape, suite, wrong, *paper[1:]):
-            self.assertEqual(check_names(rig, shape, suite, wrong, paper), word)
-            return True
-        with self.assertRaises(BadPaper) as caught:
-            check_names(rig, shape, suite, wrong, paper)
-        self.assertEqual(caught.exception.word, word or "form", paper)
-        return False
+class Papers(Judged, unittest.TestCase):
 
     def test_papers_with_one_thing_changed(self):
         taken = {"bears": 0, "mixed": 0}
