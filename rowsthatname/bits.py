@@ -23,3 +23,13 @@ def bits_of(heard):
 def outcomes_of(bits, many):
     """The outcomes of so many rows that have these bits."""
     return tuple([(bits >> number) & 1 == 1 for number in range(many)])
+
+
+def mixed_bits(signs):
+    """The numbers, as bits, that are set in some of the signs and not in all of them."""
+    some = 0
+    every = -1
+    for sign in signs:
+        some = some | sign
+        every = every & sign
+    return some & ~every

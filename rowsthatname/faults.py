@@ -62,11 +62,16 @@ def need_rows(rig, shape, suite):
     return need_suite(rig, suite)
 
 
+def is_outcome(value):
+    """Whether a value is the outcome of a row: True if it fails."""
+    return value is True or value is False
+
+
 def is_outcomes(suite, value):
     """Whether a value is outcomes of a suite."""
     if not is_tuple(value, len(suite), len(suite)):
         return False
-    return all([outcome is True or outcome is False for outcome in value])
+    return all([is_outcome(outcome) for outcome in value])
 
 
 def need_heard(suite, heard):

@@ -1,6 +1,6 @@
 """Rigs, the lots of their settings, and their rows that are let."""
 
-from rowsthatname.errors import BadLot, BadNumber, BadRig
+from rowsthatname.errors import BadLot, BadNumber, BadRig, BadRow
 
 MOST_KNOBS = 5
 LEAST_VALUES = 2
@@ -120,6 +120,13 @@ def is_let(rig, value):
     """Whether any value is a let row."""
     values, barred = need_rig(rig)
     return is_row(values, value) and not meets_any(value, barred)
+
+
+def need_row(rig, row):
+    """The let row itself."""
+    if not is_let(rig, row):
+        raise BadRow(row)
+    return row
 
 
 def let_rows(rig):

@@ -13,6 +13,9 @@ NO_PAPERS = STRANGE + ("bears", ("bears",), ("mixed", (), ()), ("mixed", ()), ("
                        ("covers",), ("lacks", ()), ("covers", (), ()), ["covers", ()], ("rows",), ("tree",),
                        ["rows", ()], ["tree", ()], ("rows", (), ()), ("tree", (), ()), ("form", ()), (None, ()),
                        ("form", (), ()), ("form", (), (), ()), ((), ()), ((), (), ()), ((), (), (), ()),
+                       ("bar",), ("bar", (), ()), ["bar", ()], ("walk",), ("walk", (), ()), ["walk", ()], ("cut",),
+                       ("cut", (), ()), ["cut", ()], ("settles",), ("settles", (), ()), ["settles", ()],
+                       ("hides",), ("hides", ()), ("hides", (), (), ()), ["hides", (), ()], b"walk", "hides",
                        {"bears": ()}, {0: "bears", 1: ()}, (True, ()), (0, (), ()), ("fails", ()), ("tree", (), (), ()))
 
 
@@ -175,3 +178,69 @@ def is_pairs(rig, shape, pairs):
         return False
     parting = [set(plain.parting_rows(rig, *pair)) for pair in pairs]
     return all(parting) and sum(len(rows) for rows in parting) == len(set().union(*parting))
+
+
+def is_next_tree(rig, left, depth, tree):
+    """Whether this is a tree of at most so many next rows for some faults."""
+    if tree is None:
+        return len(left) <= 1
+    if depth == 0 or not isinstance(tree, tuple) or len(tree) != 3:
+        return False
+    row, good, fails = tree
+    if not is_one_of(row, plain.let_rows(rig)):
+        return False
+    return (is_next_tree(rig, [faults for faults in left if not plain.is_failing(row, faults)], depth - 1, good)
+            and is_next_tree(rig, [faults for faults in left if plain.is_failing(row, faults)], depth - 1, fails))
+
+
+def is_game_tree(rig, shape, log, depth, tree):
+    """Whether this is a tree of at most so many next rows for what is left."""
+    return is_next_tree(rig, plain.left_ones(rig, shape, log), depth, tree)
+
+
+def is_bar(rig, shape, log, depth, bar):
+    """Whether this is a bar of so many next rows behind a log."""
+    if not isinstance(bar, tuple) or len(bar) != 2 or not all(isinstance(part, tuple) for part in bar):
+        return False
+    faults, bars = bar
+    fit = plain.left_faults(rig, shape, log)
+    if not all(is_one_of(one, fit) for one in faults) or list(faults) != sorted(set(faults)):
+        return False
+    if any(plain.is_alike(rig, one, other) for one in faults for other in faults if one != other):
+        return False
+    if not bars:
+        return len(faults) > (1, 2, 4, 8)[depth]
+    if depth == 0 or not all(is_bar(rig, shape, log, depth - 1, below) for below in bars):
+        return False
+    return (all(set(below[0]) <= set(faults) for below in bars)
+            and all(any(len({plain.is_failing(row, one) for one in below[0]}) == 1 for below in bars)
+                    for row in plain.let_rows(rig)))
+
+
+def is_walk(rig, one, other, rows):
+    """Whether these are let rows from the one to the other, each a step from the one ahead."""
+    return (isinstance(rows, tuple) and all(is_one_of(row, plain.let_rows(rig)) for row in rows)
+            and rows[:1] == (one,) and rows[-1:] == (other,)
+            and all(plain.is_step(row, later) for row, later in zip(rows, rows[1:])))
+
+
+def is_cut(rig, one, other, rows):
+    """Whether these are let rows from which no step leads away, the one among them, the other not."""
+    let = plain.let_rows(rig)
+    return (isinstance(rows, tuple) and all(is_one_of(row, let) for row in rows)
+            and list(rows) == sorted(set(rows)) and one in rows and other not in rows
+            and not any(plain.is_step(row, near) for row in rows for near in let if near not in rows))
+
+
+def is_settles(rig, shape, suite, other, table):
+    """Whether these are all pairs of outcomes that some faults have, no two with the same ones of a suite."""
+    pairs = tuple(plain.both_outcomes(rig, shape, suite, other))
+    return exactly(table) == exactly(pairs) and len({sign for sign, _ in pairs}) == len(pairs)
+
+
+def is_hides(rig, shape, suite, other, one, one_more):
+    """Whether these are two faults with the same outcomes by a suite, and unlike ones by another."""
+    every = plain.all_faults(rig, shape)
+    return (is_one_of(one, every) and is_one_of(one_more, every)
+            and plain.outcomes(one, suite) == plain.outcomes(one_more, suite)
+            and plain.outcomes(one, other) != plain.outcomes(one_more, other))

@@ -302,3 +302,124 @@ def apart_pairs(rig, shape):
             taken.append((one, other))
             parted |= set(parting_rows(rig, one, other))
     return tuple(taken)
+
+
+def left_faults(rig, shape, log):
+    """All faults that fit a log."""
+    return tuple(faults for faults in all_faults(rig, shape)
+                 if all(is_failing(row, faults) == outcome for row, outcome in log))
+
+
+def left_ones(rig, shape, log):
+    """The first one of each class of those that fit."""
+    return tuple(faults for faults in left_faults(rig, shape, log) if faults in firsts(rig, shape))
+
+
+def first_false(rig, shape, log):
+    """The number of the first pair up to which no faults fit, or None."""
+    for number in range(len(log)):
+        if not left_faults(rig, shape, log[:number + 1]):
+            return number
+    return None
+
+
+def foretold(rig, shape, log, row):
+    """The outcome of a row by all faults that fit, or None."""
+    told = {is_failing(row, faults) for faults in left_faults(rig, shape, log)}
+    return {frozenset({True}): True, frozenset({False}): False}.get(frozenset(told))
+
+
+def open_rows(rig, shape, log):
+    """All rows by which some faults that fit fail, and others do not."""
+    fit = left_faults(rig, shape, log)
+    return tuple(row for row in let_rows(rig) if len({is_failing(row, faults) for faults in fit}) == 2)
+
+
+@lru_cache(maxsize=None)
+def is_enough(rig, left, depth):
+    """Whether there is a tree of at most so many next rows for some faults."""
+    if len(left) <= 1:
+        return True
+    if depth == 0:
+        return False
+    halves = {tuple(faults for faults in left if is_failing(row, faults)) for row in let_rows(rig)}
+    return any(is_enough(rig, failing, depth - 1) and is_enough(rig, without(left, failing), depth - 1)
+               for failing in halves)
+
+
+def without(things, those):
+    """What is left of things without those."""
+    return tuple(thing for thing in things if thing not in those)
+
+
+def fewest_next(rig, shape, log, most):
+    """The fewest next rows that are enough, or None."""
+    enough = [many for many in range(most + 1) if is_enough(rig, left_ones(rig, shape, log), many)]
+    return min(enough, default=None)
+
+
+def is_step(one, other):
+    """Whether two rows differ in just one knob."""
+    return differing(one, other) == 1
+
+
+@lru_cache(maxsize=None)
+def steps_to(rig, one):
+    """A dict of all rows that steps reach from a row: how many steps lead there at least."""
+    steps = {one: 0}
+    while True:
+        near = {row for row in let_rows(rig) if row not in steps and any(is_step(row, other) for other in steps)}
+        if not near:
+            return steps
+        steps.update({row: max(steps.values()) + 1 for row in near})
+
+
+def islands(rig):
+    """All islands."""
+    return tuple(sorted({tuple(sorted(steps_to(rig, row))) for row in let_rows(rig)}))
+
+
+def both_outcomes(rig, shape, suite, other):
+    """All pairs of the outcomes of two suites that some faults have."""
+    return sorted({(outcomes(faults, suite), outcomes(faults, other)) for faults in all_faults(rig, shape)})
+
+
+def settles(rig, shape, suite, other):
+    """Whether any two faults with the same outcomes of a suite have the same outcomes of another one."""
+    pairs = both_outcomes(rig, shape, suite, other)
+    return all(far == far_too for sign, far in pairs for sign_too, far_too in pairs if sign == sign_too)
+
+
+def translated(rig, shape, suite, other, heard):
+    """The outcomes of another suite by all faults that give what was heard, or None."""
+    fit = [faults for faults in all_faults(rig, shape) if outcomes(faults, suite) == heard]
+    if not fit:
+        return None
+    told = [{is_failing(row, faults) for faults in fit} for row in other]
+    return tuple(None if len(those) == 2 else True in those for those in told)
+
+
+def settled_rows(rig, shape, suite):
+    """The numbers of the rows that are settled by the ones ahead."""
+    return tuple(number for number in range(len(suite))
+                 if settles(rig, shape, suite[:number], suite[number:number + 1]))
+
+
+def without_rows(suite, numbers):
+    """What is left of a suite without the rows with some numbers."""
+    return tuple(row for number, row in enumerate(suite) if number not in numbers)
+
+
+def weak_rows(rig, shape, suite):
+    """The fewest rows without which a suite does not name the faults, all of them tried, or None."""
+    for many in range(len(suite) + 1):
+        for numbers in combinations(range(len(suite)), many):
+            if not names(rig, shape, without_rows(suite, numbers)):
+                return numbers
+    return None
+
+
+def names_without(rig, shape, suite, lost):
+    """Whether a suite names the faults whichever rows are left out, all of them tried."""
+    return all(names(rig, shape, without_rows(suite, numbers))
+               for numbers in combinations(range(len(suite)), min(lost, len(suite))))

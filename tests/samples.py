@@ -95,3 +95,20 @@ def suites_of(rig, many, most=12):
 def turned(outcomes, numbers):
     """Outcomes with those of some rows turned."""
     return tuple(outcome != (number in numbers) for number, outcome in enumerate(outcomes))
+
+
+def logs_of(rig, shape, many, most=8):
+    """Some logs of a rig and a shape, lists and tuples: empty ones, such that faults give, and such that none may."""
+    rows = plain.let_rows(rig)
+    every = plain.all_faults(rig, shape)
+    draw = Random(repr((rig, shape)))
+    logs = [(), []]
+    for number in range(many if rows else 0):
+        faults = draw.choice(every)
+        drawn = [draw.choice(rows) for _ in range(draw.randint(1, most))]
+        log = [(row, plain.is_failing(row, faults)) for row in drawn]
+        if number % 3 == 2:
+            log.append((drawn[0], draw.choice((True, False))))
+            log.append((draw.choice(rows), draw.choice((True, False))))
+        logs.append(log if number % 2 else tuple(log))
+    return logs

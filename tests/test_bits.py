@@ -1,6 +1,6 @@
 import unittest
 
-from rowsthatname.bits import bits_of, count_bits, numbers_in, outcomes_of
+from rowsthatname.bits import bits_of, count_bits, mixed_bits, numbers_in, outcomes_of
 from rowsthatname.errors import BadPaper
 from rowsthatname.papers import has_form, word_of
 
@@ -12,6 +12,11 @@ class Bits(unittest.TestCase):
                               ((1 << 40) - 1, tuple(range(40)))):
             self.assertEqual(count_bits(bits), len(numbers))
             self.assertEqual(numbers_in(bits), numbers)
+
+    def test_bits_that_are_not_the_same_in_all(self):
+        for signs, mixed in (((), 0), ((0b101,), 0), ((0b101, 0b101), 0), ((0b101, 0b100), 0b001), ((0, 0b11), 0b11),
+                             ((0b1100, 0b1010, 0b1001), 0b0111)):
+            self.assertEqual(mixed_bits(signs), mixed)
 
     def test_outcomes_there_and_back(self):
         for heard in ((), (False,), (True,), (True, False, False), (False, True, True, False)):

@@ -8,8 +8,8 @@ from itertools import permutations, product
 from rowsthatname import faults as faults_file
 from rowsthatname import rigs as rigs_file
 from rowsthatname.errors import BadPaper, BadRig, TooGreat
-from tests.calls import (CALLS, GREAT, HEAVY_PAPERS, LIGHT_PAPERS, ONE, RIG, SHAPE, TOO_GREAT, WRONG, great_of,
-                         refused_of)
+from tests.calls import (CALLS, GREAT, HEAVY_PAPERS, LIGHT_PAPERS, ONE, RIG, SHAPE, TOO_GREAT, great_of, refused_of,
+                         wrong_of)
 
 
 class Calls(unittest.TestCase):
@@ -53,11 +53,30 @@ class Calls(unittest.TestCase):
             faults_file.all_faults(((4,) * 5, ()), (3, 2))
         self.assertEqual([getattr(file, name)(**given) for file, name, given in CALLS], first)
 
-    def test_suites_as_lists_and_as_tuples(self):
+    def test_suites_and_logs_as_lists_and_as_tuples(self):
         for file, name, given in CALLS:
-            if "suite" in given:
-                call = getattr(file, name)
-                self.assertEqual(call(**{**given, "suite": tuple(given["suite"])}), call(**given))
+            for key in ("suite", "log"):
+                if key in given:
+                    call = getattr(file, name)
+                    self.assertEqual(call(**{**given, key: tuple(given[key])}), call(**given))
+
+    def test_nothing_that_can_be_changed_is_returned(self):
+        for file, name, given in CALLS:
+            self.assert_fixed(getattr(file, name)(**given))
+
+    def assert_fixed(self, value):
+        self.assertIn(value.__class__, (int, bool, str, tuple, None.__class__))
+        for part in value if isinstance(value, tuple) else ():
+            self.assert_fixed(part)
+
+    def test_every_function_has_its_call(self):
+        # These are the modules of the interface; bench and desk have classes, with tests of their own.
+        listed = {(file.__name__, name) for file, name, _ in CALLS}
+        self.assertEqual(len(listed), len(CALLS))
+        counts = {"rigs": 6, "faults": 7, "naming": 7, "hearing": 8, "detecting": 10, "covers": 8, "further": 4,
+                  "lean": 6, "built": 6, "logs": 4, "games": 3, "walks": 7, "beside": 8, "texts": 6}
+        for name, many in counts.items():
+            self.assertEqual(len([file for file, _ in listed if file == f"rowsthatname.{name}"]), many, name)
 
 
 class Arguments(unittest.TestCase):
@@ -67,12 +86,14 @@ class Arguments(unittest.TestCase):
             kept = deepcopy(given)
             getattr(file, name)(**given)
             self.assertEqual(given, kept, name)
-            self.assertEqual(given.get("suite", None).__class__, kept.get("suite", None).__class__)
+            for key in ("suite", "other", "log"):
+                self.assertEqual(given.get(key, None).__class__, kept.get(key, None).__class__)
 
     def test_what_is_refused_stays_as_it_was(self):
         for file, name, given in CALLS:
             for key in refused_of(name, given):
-                for value in ([(2, 3), [], {}], [[0, 1], [(0, 0)]], {"rig": [RIG]}, [[0, 0, 0], (0, 0, 0)]):
+                for value in ([(2, 3), [], {}], [[0, 1], [(0, 0)]], {"rig": [RIG]}, [[0, 0, 0], (0, 0, 0)],
+                              [((0, 0, 0), True), [(0, 0, 0), False]]):
                     passed = {**given, key: value}
                     kept = deepcopy(passed)
                     with self.assertRaises(ValueError):
@@ -85,22 +106,23 @@ class Arguments(unittest.TestCase):
         self.assertIs(rigs_file.is_let(RIG, value), False)
         self.assertEqual(value, kept)
 
-    def test_suites_stay_the_same_lists(self):
+    def test_suites_and_logs_stay_the_same_lists(self):
         for file, name, given in CALLS:
-            if "suite" in given:
-                suite = [(0, 0, 0), (1, 1, 1), (0, 0, 0)]
-                rows = list(suite)
-                getattr(file, name)(**{**given, "suite": suite})
-                self.assertEqual(suite, rows)
-                self.assertTrue(all(one is other for one, other in zip(suite, rows)))
+            for key in ("suite", "log", "other"):
+                if isinstance(given.get(key, None), list):
+                    passed = list(given[key])
+                    kept = list(passed)
+                    getattr(file, name)(**{**given, key: passed})
+                    self.assertEqual(passed, kept)
+                    self.assertTrue(all(one is other for one, other in zip(passed, kept)))
 
 
 class Errors(unittest.TestCase):
 
-    def assert_first_error(self, call, passed, key, value, told):
-        kind, field, _ = WRONG[key]
+    def assert_first_error(self, file, name, passed, key, value, told):
+        kind, field, _ = wrong_of(name, key)
         with self.assertRaises(kind) as caught:
-            call(**passed)
+            getattr(file, name)(**passed)
         self.assertIs(caught.exception.__class__, kind)
         self.assertEqual(getattr(caught.exception, field), told)
         if field == "value":
@@ -109,8 +131,8 @@ class Errors(unittest.TestCase):
     def test_one_wrong_argument(self):
         for file, name, given in CALLS:
             for key in refused_of(name, given):
-                for value, told in WRONG[key][2]:
-                    self.assert_first_error(getattr(file, name), {**given, key: value}, key, value, told)
+                for value, told in wrong_of(name, key)[2]:
+                    self.assert_first_error(file, name, {**given, key: value}, key, value, told)
 
     def test_of_several_wrong_arguments_the_first(self):
         for file, name, given in CALLS:
@@ -118,10 +140,10 @@ class Errors(unittest.TestCase):
             for chosen in product((False, True), repeat=len(keys)):
                 wrong = [key for key, is_wrong in zip(keys, chosen) if is_wrong]
                 for number in range(3):
-                    passed = {**given, **{key: WRONG[key][2][number][0] for key in wrong}}
+                    passed = {**given, **{key: wrong_of(name, key)[2][number][0] for key in wrong}}
                     if wrong:
-                        value, told = WRONG[wrong[0]][2][number]
-                        self.assert_first_error(getattr(file, name), passed, wrong[0], value, told)
+                        value, told = wrong_of(name, wrong[0])[2][number]
+                        self.assert_first_error(file, name, passed, wrong[0], value, told)
 
     def test_is_let_refuses_no_value(self):
         for value in (None, True, "", [], {}, (None,), [[1, 1, 1]], RIG):
@@ -147,7 +169,7 @@ class Greatness(unittest.TestCase):
     def test_other_errors_come_first(self):
         for file, name, given in CALLS:
             for key in refused_of(name, given):
-                kind, _, values = WRONG[key]
+                kind, _, values = wrong_of(name, key)
                 with self.assertRaises(kind):
                     getattr(file, name)(**{**great_of(name, given), key: values[0][0]})
 
